@@ -5,7 +5,7 @@ from textpassages.operations import frame as frame_of
 from textpassages.refusals import InvalidArgument
 from textpassages.session import Session
 
-# Of this text and query, [1, 3] tells all five factors apart: o and e by 1 and 2 times 1000 and the like.
+# Of this text and query, [1, 3] has the score o + 2e + h + t - 3c.
 PREPARED = [text(1, 1, 2, 0), ask(1, 1)]
 WHOLE = worth(1, 3)
 

@@ -1,17 +1,13 @@
 import unittest
 
-from tests.calling import HUGE, INVALID, ask, frame, last, run, text, tune, worth
-from textpassages.operations import frame as frame_of
-from textpassages.refusals import InvalidArgument
-from textpassages.session import Session
+from tests.calling import HUGE, INVALID, ask, best, frame, last, run, sentences_of, singles, text, tune, worth
 
 # Of this text and query, [1, 3] has the score o + 2e + h + t - 3c.
 PREPARED = [text(1, 1, 2, 0), ask(1, 1)]
 WHOLE = worth(1, 3)
 
-
-def framed(session):
-    return [session.settings.w, session.settings.g]
+# Of this text and query, best(2) selects [1, w] and, g positions behind it, [w + g + 1, 2w + g].
+FRAMED = [text(*sentences_of([60])), ask(1, 1), tune(0, 1, 0, 0, 0)]
 
 
 class TuneTest(unittest.TestCase):
@@ -59,23 +55,25 @@ class FrameTest(unittest.TestCase):
     def test_changes_no_score(self):
         self.assertEqual(last(*PREPARED, frame(1, 20), WHOLE), last(*PREPARED, WHOLE))
 
-    # The scores don't tell w and g, so these look at the session itself.
+    def framed(self, *calls):
+        return last(*FRAMED, *calls, best(2))
 
     def test_initial_values(self):
-        self.assertEqual(framed(Session()), [10, 1])
+        self.assertEqual(self.framed(), [2, 1, 10, 12, 21, 20])
+        self.assertEqual(last(*FRAMED, singles(HUGE)), last(*FRAMED, frame(10, 1), singles(HUGE)))
 
     def test_sets_both(self):
-        session = Session()
-        self.assertEqual(frame_of(session, 3, 17), [0])
-        self.assertEqual(framed(session), [3, 17])
+        for w, g in ((1, 1), (3, 17), (17, 3), (20, 1), (1, 20), (20, 20)):
+            self.assertEqual(self.framed(frame(w, g)), [2, 1, w, w + g + 1, 2 * w + g, 2 * w])
+
+    def test_stays_until_framed_again(self):
+        found = run(frame(3, 17), *FRAMED, best(2), text(), *FRAMED, best(2), frame(2, 1), best(2))
+        self.assertEqual([found[4], found[9], found[11]], [[2, 1, 3, 21, 23, 6], [2, 1, 3, 21, 23, 6], [2, 1, 2, 4, 5, 4]])
 
     def test_a_refusal_sets_neither(self):
-        session = Session()
-        frame_of(session, 3, 17)
         for w, g in ((0, 5), (5, 0), (21, 5), (5, 21), (HUGE, 5), (5, HUGE)):
-            with self.assertRaises(InvalidArgument):
-                frame_of(session, w, g)
-            self.assertEqual(framed(session), [3, 17])
+            self.assertEqual(self.framed(frame(w, g)), [2, 1, 10, 12, 21, 20])
+            self.assertEqual(self.framed(frame(3, 17), frame(w, g)), [2, 1, 3, 21, 23, 6])
 
 
 if __name__ == "__main__":

@@ -1,22 +1,9 @@
 import unittest
 
-from tests.calling import HUGE, INVALID, all_worths, ask, frame, last, run, text, tune, worth
+from tests.calling import HUGE, INVALID, Plain, all_worths, ask, frame, last, run, text, tune, worth
 
 # The positions 1 to 7; sentences begin at 1, 4 and 5 and end at 3, 4 and 7.
 SENTENCES = text(1, 2, 1, 0, 3, 0, 2, 4, 5, 0)
-
-
-def plain_score(sentences, weights, factors, a, b):
-    """The score of [a, b] word for word as it is defined."""
-    o, e, h, t, c = factors
-    words = [word for sentence in sentences for word in sentence]
-    inside = [words[position - 1] for position in range(a, b + 1)]
-    ends = [sum(len(sentence) for sentence in sentences[:place + 1]) for place in range(len(sentences))]
-    begins = [1] + [end + 1 for end in ends[:-1]]
-    total = o * sum(weights[word] for word in set(inside) if word in weights)
-    total += e * sum(weights[word] for word in inside if word in weights)
-    total += h * begins.count(a) + t * ends.count(b)
-    return total - c * (b - a + 1)
 
 
 class WorthTest(unittest.TestCase):
@@ -79,17 +66,12 @@ class WorthTest(unittest.TestCase):
             self.assertEqual([type(number) for number in answer], [int, int])
 
     def test_every_passage_as_defined(self):
-        sentences = [[1, 2, 1], [3], [2, 4, 5, 1]]
-        numbers = [number for sentence in sentences for number in sentence + [0]]
-        for weights in ({}, {1: 3, 2: 5}, {5: 100}, {4: 1, 9: 7, 2: 2, 3: 50}):
+        for query in ((), (1, 3, 2, 5), (5, 100), (4, 1, 9, 7, 2, 2, 3, 50)):
             for factors in ((10, 1, 3, 2, 1), (0, 3, 5, 7, 11), (100, 0, 0, 100, 99), (2, 1, 0, 0, 4)):
-                pairs = [number for pair in weights.items() for number in pair]
-                before = [text(*numbers), ask(*pairs), tune(*factors)]
-                for call in all_worths(8):
-                    a, b = call[1:]
-                    inside = [word for sentence in sentences for word in sentence][a - 1:b]
-                    has = int(any(word in weights for word in inside))
-                    self.assertEqual(last(*before, call), [has, plain_score(sentences, weights, factors, a, b)])
+                case = Plain([[1, 2, 1], [3], [2, 4, 5, 1]], query, factors)
+                wished = [[int(any(word in case.weights for word in case.inside(a, b))), case.score(a, b)]
+                          for a, b in case.passages()]
+                self.assertEqual(case.asked(*all_worths(8)), wished, case)
 
 
 if __name__ == "__main__":

@@ -1,8 +1,8 @@
 """The desk: takes all calls of one request and gives back all of their answers."""
 
-from textpassages.operations import ask, frame, more, text, tune, worth
+from textpassages.operations import ask, best, fewest, frame, hidden, more, narrow, show, singles, text, tune, worth
 from textpassages.reading import split_calls
-from textpassages.refusals import InvalidArgument, TextTooLong, UnknownCall
+from textpassages.refusals import InvalidArgument, NoWantedWord, TextTooLong, UnknownCall
 from textpassages.session import Session
 
 
@@ -19,6 +19,18 @@ def perform(session, number, numbers):
         return frame(session, numbers[0], numbers[1])
     if number == 5:
         return worth(session, numbers[0], numbers[1])
+    if number == 6:
+        return best(session, numbers[0])
+    if number == 7:
+        return singles(session, numbers[0])
+    if number == 8:
+        return narrow(session)
+    if number == 9:
+        return fewest(session)
+    if number == 10:
+        return show(session, numbers[0])
+    if number == 11:
+        return hidden(session, numbers[0])
     raise UnknownCall(f"call {number}")
 
 
@@ -27,6 +39,8 @@ def answer(session, number, numbers):
         return perform(session, number, numbers)
     except InvalidArgument:
         return [-1]
+    except NoWantedWord:
+        return [-3]
     except TextTooLong:
         return [-5]
 

@@ -21,3 +21,13 @@ def score(session, a, b):
     if b in session.text.ends:
         total += settings.t
     return total
+
+
+def eligible_passages(session):
+    last = len(session.text.words)
+    found = []
+    for a in range(1, last + 1):
+        for b in range(a, min(a + session.settings.w - 1, last) + 1):
+            if has_query_word(session, a, b):
+                found.append((a, b))
+    return found

@@ -3,7 +3,7 @@
 from textpassages.refusals import UnknownCall
 
 ROW_CALLS = (0, 1, 2)
-ARGUMENT_COUNTS = {3: 5, 4: 2, 5: 2}
+ARGUMENT_COUNTS = {3: 5, 4: 2, 5: 2, 6: 1, 7: 1, 8: 0, 9: 0, 10: 1, 11: 1}
 
 
 def split_calls(calls):

@@ -5,6 +5,10 @@ class InvalidArgument(Exception):
     pass
 
 
+class NoWantedWord(Exception):
+    pass
+
+
 class TextTooLong(Exception):
     pass
 
